@@ -1,0 +1,1 @@
+"""All roots of systems of polynomials, each in a box of its own, and none left out."""

@@ -1,0 +1,119 @@
+"""Products and quotients of tuples of terms, with the four powers of a term packed into one integer.
+
+A packed term is a pair (place, count). Adding two places adds the powers, and places are ordered as the
+tuples of powers are, if each power has as many bits of its own as the greatest one needs.
+"""
+
+from collections import defaultdict
+from heapq import heapify, heappop, heappush
+
+from boxedroots.judging import UNKNOWNS
+
+
+def greatest_powers(terms):
+    """The greatest power of each unknown."""
+    return [max([powers[k] for powers, _ in terms], default=0) for k in range(UNKNOWNS)]
+
+
+def packed(terms, widths):
+    """The packed terms, in the same order, widths telling how many bits each power has."""
+    _, second, third, fourth = widths
+    return [
+        ((((((powers[0] << second) + powers[1]) << third) + powers[2]) << fourth) + powers[3], count)
+        for powers, count in terms
+    ]
+
+
+def unpacked(packs, widths):
+    """The tuple of the terms that were packed."""
+    _, second, third, fourth = widths
+    above = third + fourth
+    return tuple([
+        (
+            (
+                place >> (second + above),
+                (place >> above) & ((1 << second) - 1),
+                (place >> fourth) & ((1 << third) - 1),
+                place & ((1 << fourth) - 1),
+            ),
+            count,
+        )
+        for place, count in packs
+    ])
+
+
+def scaled_terms(terms, powers, count):
+    """The terms of a product with the single term of these powers and this count."""
+    first, second, third, fourth = powers
+    return tuple([
+        ((ahead[0] + first, ahead[1] + second, ahead[2] + third, ahead[3] + fourth), here * count)
+        for ahead, here in terms
+    ])
+
+
+def product_terms(one, other):
+    """The terms of the product of two tuples of terms."""
+    if len(one) > len(other):
+        one, other = other, one
+    if not one:
+        return ()
+    if len(one) == 1:
+        return scaled_terms(other, one[0][0], one[0][1])
+    widths = [(high + low).bit_length() for high, low in zip(greatest_powers(one), greatest_powers(other))]
+    counts = added_products(packed(one, widths), packed(other, widths))
+    return unpacked([(place, counts[place]) for place in sorted(counts) if counts[place] != 0], widths)
+
+
+def added_products(one, other):
+    """The dict from each place to the count there of the product of packed terms."""
+    counts = defaultdict(int)
+    for here, count in one:
+        for there, many in other:
+            counts[here + there] += count * many
+    return dict(counts)
+
+
+def quotient_terms(one, other):
+    """The terms of the quotient of two tuples of terms, where the second one divides the first."""
+    powers, count = other[-1]
+    if len(other) == 1:
+        return divided_terms(one, powers, count)
+    # A factor has no greater powers than the product, so that the widths of this one are enough.
+    widths = [high.bit_length() for high in greatest_powers(one)]
+    found = taken_out(packed(one, widths), packed(other, widths))
+    found.reverse()
+    return unpacked(found, widths)
+
+
+def divided_terms(terms, powers, count):
+    """The terms of the quotient by the single term of these powers and this count, which divides all."""
+    first, second, third, fourth = powers
+    return tuple([
+        ((ahead[0] - first, ahead[1] - second, ahead[2] - third, ahead[3] - fourth), here // count)
+        for ahead, here in terms
+    ])
+
+
+def taken_out(one, other):
+    """The packed terms of the quotient, the greatest place first."""
+    last, least = other[-1]
+    lower = other[:-1]
+    counts = {place: count for place, count in one}
+    queue = [-place for place, _ in one]
+    heapify(queue)
+    found = []
+    while queue:
+        place = -heappop(queue)
+        # No later step reaches this place again, as all that they take away stands below their own.
+        count = counts.pop(place)
+        if count == 0:
+            continue
+        step, many = place - last, count // least
+        found.append((step, many))
+        for there, by in lower:
+            at = there + step
+            if at not in counts:
+                heappush(queue, -at)
+                counts[at] = 0
+            counts[at] -= by * many
+    return found

@@ -1,0 +1,40 @@
+"""The interface: the names, where they are defined, and their arguments."""
+
+import importlib
+import inspect
+import unittest
+
+INTERFACE = {
+    "boxedroots.polys": {
+        "number_poly": ["number"], "unknown_poly": ["k"], "plus": ["one", "other"], "minus": ["one", "other"],
+        "times": ["one", "other"], "power": ["poly", "many"], "lead": ["poly", "k"], "slope": ["poly", "k"],
+        "exchanged": ["poly", "k", "l"], "top": ["poly"], "degree": ["poly", "k"], "worth": ["poly", "point"],
+    },
+    "boxedroots.divide": {"divided": ["one", "other", "k"], "eliminated": ["one", "other", "k"]},
+}
+CLASSES = {("boxedroots.polys", "Poly"): (["terms"], ["__init__", "__eq__"])}
+
+
+class InterfaceTest(unittest.TestCase):
+    def test_functions(self):
+        for module, functions in INTERFACE.items():
+            for name, arguments in functions.items():
+                function = getattr(importlib.import_module(module), name)
+                self.assertTrue(inspect.isfunction(function), name)
+                self.assertEqual(function.__module__, module)
+                self.assertEqual(list(inspect.signature(function).parameters), arguments)
+
+    def test_classes(self):
+        for (module, name), (arguments, methods) in CLASSES.items():
+            found = getattr(importlib.import_module(module), name)
+            self.assertEqual(found.__module__, module)
+            self.assertEqual(list(inspect.signature(found).parameters), arguments)
+            for method in methods:
+                self.assertIn(method, vars(found))
+
+    def test_the_package_is_one(self):
+        self.assertTrue(importlib.import_module("boxedroots").__file__.endswith("__init__.py"))
+
+
+if __name__ == "__main__":
+    unittest.main()
