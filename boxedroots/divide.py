@@ -14,16 +14,22 @@ def divided(one, other, k):
     if low == 0:
         raise NoDivisor()
     many = max(0, degree(one, k) - low + 1)
-    head = lead(other, k)
-    steps, rest = taken_away(rows_of(one, k), rows_of(other, k), low)
+    short, q, r = divided_shortly(one, other, k)
     # Where a power was missing a step was spared, but h does not hang on that.
-    factor = raised(head, many - len(steps))
-    left = times(poly_of_rows(rest, k), factor)
+    factor = raised(lead(other, k), many - short)
+    return (many, times(q, factor), times(r, factor))
+
+
+def divided_shortly(one, other, k):
+    """A triple as of divided, but with no greater h than the steps that are done."""
+    head = lead(other, k)
+    steps, rest = taken_away(rows_of(one, k), rows_of(other, k), degree(other, k))
     fronts = {}
+    factor = number_poly(1)
     for at, front in reversed(steps):
         fronts[at] = times(front, factor)
         factor = times(factor, head)
-    return (many, poly_of_rows(fronts, k), left)
+    return (len(steps), poly_of_rows(fronts, k), poly_of_rows(rest, k))
 
 
 def rows_of(poly, k):

@@ -74,28 +74,41 @@ def added_products(one, other):
 
 
 def quotient_terms(one, other):
-    """The terms of the quotient of two tuples of terms, where the second one divides the first."""
-    powers, count = other[-1]
+    """The terms of the quotient of two tuples of terms, the second one not empty; None if there is a remainder."""
     if len(other) == 1:
-        return divided_terms(one, powers, count)
-    # A factor has no greater powers than the product, so that the widths of this one are enough.
-    widths = [high.bit_length() for high in greatest_powers(one)]
-    found = taken_out(packed(one, widths), packed(other, widths))
+        return divided_terms(one, other[0][0], other[0][1])
+    highs = greatest_powers(one)
+    spare = [high - low for high, low in zip(highs, greatest_powers(other))]
+    if any([high < 0 for high in spare]):
+        return () if not one else None
+    # One bit more for each power, so that a difference that is below 0 shows there.
+    widths = [high.bit_length() + 1 for high in highs]
+    bound = packed([(tuple(spare), 0)], widths)[0][0]
+    guard = packed([(tuple([1 << (width - 1) for width in widths]), 0)], widths)[0][0]
+    found = taken_out(packed(one, widths), packed(other, widths), bound, guard)
+    if found is None:
+        return None
     found.reverse()
     return unpacked(found, widths)
 
 
 def divided_terms(terms, powers, count):
-    """The terms of the quotient by the single term of these powers and this count, which divides all."""
+    """The terms of the quotient by the single term of these powers and this count, None if there is a remainder."""
     first, second, third, fourth = powers
+    for ahead, here in terms:
+        if here % count != 0 or ahead[0] < first or ahead[1] < second or ahead[2] < third or ahead[3] < fourth:
+            return None
     return tuple([
         ((ahead[0] - first, ahead[1] - second, ahead[2] - third, ahead[3] - fourth), here // count)
         for ahead, here in terms
     ])
 
 
-def taken_out(one, other):
-    """The packed terms of the quotient, the greatest place first."""
+def taken_out(one, other, bound, guard):
+    """The packed terms of the quotient, the greatest place first, None if there is a remainder.
+
+    A quotient has powers up to the bound; guard has the spare bit of each power.
+    """
     last, least = other[-1]
     lower = other[:-1]
     counts = {place: count for place, count in one}
@@ -108,7 +121,10 @@ def taken_out(one, other):
         count = counts.pop(place)
         if count == 0:
             continue
-        step, many = place - last, count // least
+        step, many = (place | guard) - last, count // least
+        if count != many * least or step & guard != guard or ((bound | guard) - (step - guard)) & guard != guard:
+            return None
+        step = step - guard
         found.append((step, many))
         for there, by in lower:
             at = there + step

@@ -195,3 +195,11 @@ def weights_of(poly, k, most, place):
         high: number_raised(over, high) * number_raised(under, most - high)
         for high in sorted({powers[k] for powers, _ in poly.terms})
     }
+
+
+def stands_in(many, thing):
+    """Whether a thing is a Poly in the unknowns that are numbered below many."""
+    if not isinstance(thing, Poly):
+        return False
+    highest = top(thing)
+    return highest is None or highest < many

@@ -151,7 +151,9 @@ class FormTest(unittest.TestCase):
             if node.name.startswith("__"):
                 self.assertIn(node.name, DUNDERS)
         for name, node in nodes(ast.arguments):
-            self.assertFalse(node.vararg or node.kwarg or node.kwonlyargs or node.posonlyargs or node.defaults, name)
+            self.assertFalse(node.vararg or node.kwarg or node.kwonlyargs or node.posonlyargs, name)
+            for default in node.defaults:
+                ast.literal_eval(default)
 
     def test_l6_to_l8_what_is_not_used(self):
         for name, node in nodes(BARRED_NODES):

@@ -11,8 +11,21 @@ INTERFACE = {
         "exchanged": ["poly", "k", "l"], "top": ["poly"], "degree": ["poly", "k"], "worth": ["poly", "point"],
     },
     "boxedroots.divide": {"divided": ["one", "other", "k"], "eliminated": ["one", "other", "k"]},
+    "boxedroots.systems": {"is_root": ["system", "thing"]},
+    "boxedroots.covers": {
+        "cover_fault": ["system", "thing"], "is_cover": ["system", "thing"], "leaves": ["system", "cover"],
+        "leaf_of": ["system", "cover", "point"],
+    },
+    "boxedroots.chains": {
+        "is_paper": ["many", "chain", "poly", "thing"], "is_chain": ["many", "thing"],
+        "is_regular": ["many", "thing"], "needed": ["many", "chain"], "paper_for": ["many", "chain", "poly"],
+    },
+    "boxedroots.making": {"cover_of": ["system"]},
 }
-CLASSES = {("boxedroots.polys", "Poly"): (["terms"], ["__init__", "__eq__"])}
+CLASSES = {
+    ("boxedroots.polys", "Poly"): (["terms"], ["__init__", "__eq__"]),
+    ("boxedroots.systems", "System"): (["many", "equations", "barred"], ["__init__", "__eq__"]),
+}
 
 
 class InterfaceTest(unittest.TestCase):
