@@ -2,6 +2,7 @@
 
 from boxedroots.bases import complete
 from boxedroots.common import content, number_in, primitive, quotient
+from boxedroots.factors import easy_factor
 from boxedroots.generic import generic_chain
 from boxedroots.normals import drop_others, normal_over, put_normal
 from boxedroots.orders import BY_DEGREE, BY_TOPS, is_bounded
@@ -23,8 +24,14 @@ def ground(work, many):
         work.fresh = False
         work.ready = has_unlike_tops(work.equations)
         return []
+    parts = factored(work) if work.known == 0 else []
+    if parts:
+        return parts
     reducers = based(work, many)
     if work.order == BY_DEGREE and not work.over:
+        parts = factored(work)
+        if parts:
+            return parts
         by_tops = based_by_tops(work, LIMIT) if work.hint is None else None
         if by_tops is None:
             if work.hint is None:
@@ -35,6 +42,17 @@ def ground(work, many):
             by_tops = based_by_tops(work, None)
         reducers = by_tops
     return [] if work.over else thinned(work, least_by_tops(work), reducers)
+
+
+def factored(work):
+    """The two states that a state is parted in by a factor of an equation, none if none is found."""
+    for poly in work.equations:
+        factor = easy_factor(poly)
+        if factor is not None:
+            parts = work.part(factor)
+            parts[1].known = 0
+            return parts
+    return []
 
 
 def has_unlike_tops(equations):
@@ -52,15 +70,26 @@ def tidy(work):
     at = work.known
     while at < len(work.equations) and not work.over:
         poly = work.equations[at]
-        same = [place for place, other in enumerate(work.equations) if place < at and other == poly]
         if not poly.terms:
             work.drop(at, {}, {})
-        elif same:
-            work.drop(at, {}, one_count(same[0]))
+        elif dropped_by_divisor(work, at):
+            at = work.known
         elif is_tidy(work, poly):
             at += 1
         else:
             replace_tidily(work, at)
+
+
+def dropped_by_divisor(work, at):
+    """Whether another equation divides an equation, which then is dropped."""
+    poly = work.equations[at]
+    for place, other in enumerate(work.equations):
+        if place != at and other.terms:
+            front = quotient(poly, other)
+            if front is not None:
+                work.drop(at, {}, {place: front})
+                return True
+    return False
 
 
 def is_tidy(work, poly):
