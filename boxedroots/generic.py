@@ -13,7 +13,7 @@ from boxedroots.staircase import Echelon, Stairs, base_by_tops, sum_of_keys
 from boxedroots.working import Work
 
 # What the unknowns that stay free are held at.
-VALUES = (1009, -2003, 3001)
+VALUES = (1009, 2003, 3001)
 # No chain is looked for by more products of powers than so many.
 MOST_ROWS = 300
 

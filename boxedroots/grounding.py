@@ -50,7 +50,9 @@ def factored(work):
         factor = easy_factor(poly)
         if factor is not None:
             parts = work.part(factor)
-            parts[1].known = 0
+            # What the equations can now be divided by is looked for in all of them.
+            other = parts[1]
+            other.known = 0
             return parts
     return []
 
@@ -82,14 +84,15 @@ def tidy(work):
 
 def dropped_by_divisor(work, at):
     """Whether another equation divides an equation, which then is dropped."""
-    poly = work.equations[at]
+    fronts = {}
     for place, other in enumerate(work.equations):
-        if place != at and other.terms:
-            front = quotient(poly, other)
+        if place != at and other.terms and not fronts:
+            front = quotient(work.equations[at], other)
             if front is not None:
-                work.drop(at, {}, {place: front})
-                return True
-    return False
+                fronts[place] = front
+    if fronts:
+        work.drop(at, {}, fronts)
+    return bool(fronts)
 
 
 def is_tidy(work, poly):

@@ -196,6 +196,42 @@ class FormTest(unittest.TestCase):
                     stored |= {arg.arg for arg in node.args.args}
                     self.assertEqual(stored & taken, set(), f"{file.name}: {node.name}")
 
+    def test_l18_and_l26_attributes(self):
+        taken = set("items keys values pop update append clear extend insert remove reverse setdefault sort args".split())
+        taken |= {"encode", "decode", "hex", "fromhex", "format", "is_integer", "conjugate", "bit_count"}
+        for name, node in nodes(ast.Attribute):
+            if isinstance(node.ctx, ast.Store):
+                self.assertIsInstance(node.value, ast.Name, f"{name}, line {node.lineno}")
+                self.assertNotIn(node.attr, taken, f"{name}, line {node.lineno}")
+            self.assertFalse(isinstance(node.ctx, ast.Del), name)
+
+    def test_l18_attributes_are_assigned(self):
+        stored = {node.attr for _, node in nodes(ast.Attribute) if isinstance(node.ctx, ast.Store)}
+        methods = {node.name for _, node in nodes(ast.FunctionDef)} | METHODS
+        for name, node in nodes(ast.Attribute):
+            self.assertIn(node.attr, stored | methods, f"{name}, line {node.lineno}")
+
+    def test_l22_own_functions_get_what_they_take(self):
+        takes = {}
+        for _, node in nodes(ast.FunctionDef):
+            if not node.name.startswith("__"):
+                most = len(node.args.args)
+                takes.setdefault(node.name, []).append((most - len(node.args.defaults), most))
+        for name, node in nodes(ast.Call):
+            if isinstance(node.func, ast.Name) and node.func.id in takes:
+                many = len(node.args) + len(node.keywords)
+                self.assertTrue(any(low <= many <= high for low, high in takes[node.func.id]), f"{name}: {node.lineno}")
+
+    def test_l23_loops_do_not_change_what_they_go_over(self):
+        changing = {"append", "clear", "extend", "insert", "pop", "remove", "reverse", "update", "add", "discard"}
+        for name, node in nodes(ast.For):
+            over = {ast.dump(part) for part in ast.walk(node.iter) if isinstance(part, (ast.Name, ast.Attribute))}
+            for inner in [part for row in node.body for part in ast.walk(row)]:
+                if isinstance(inner, ast.Call) and isinstance(inner.func, ast.Attribute) and inner.func.attr in changing:
+                    self.assertNotIn(ast.dump(inner.func.value), over, f"{name}, line {inner.lineno}")
+                if isinstance(inner, ast.Subscript) and isinstance(inner.ctx, (ast.Store, ast.Del)):
+                    self.assertNotIn(ast.dump(inner.value), over, f"{name}, line {inner.lineno}")
+
     def test_l14_characters(self):
         for file in FILES:
             for byte in set(file.read_bytes()):
