@@ -4,6 +4,10 @@ from boxedroots.common import common, number_in, primitive, quotient
 from boxedroots.orders import BY_DEGREE
 from boxedroots.polys import Poly, number_poly, raised, times
 
+# No power in a step is above 1000; these are so low that sums and products of them are not, either.
+MOST_AT_ONCE = 500
+MOST_FOR_GOOD = 4
+
 
 class Work:
     """A state, with the list of all steps so far, which all states of a cover share.
@@ -75,15 +79,19 @@ def without_barred(poly, barred):
     """The triple (powers, rest, factor): the rest times the barred ones, each to its power, is factor times a Poly.
 
     The Poly is not 0; powers is a dict from the numbers of the barred ones; the rest has no divisor in common with
-    any of these, but integers: what was divided out is nowhere 0 where none of them is.
+    any of these, but integers, if that does not take too great powers: what was divided out is nowhere 0 where none
+    of them is.
     """
+    for at, other in enumerate(barred):
+        if other.terms and primitive(other) == primitive(poly):
+            return {at: 1}, number_poly(poly.terms[-1][1]), number_poly(other.terms[-1][1])
     powers = {}
     factor = number_poly(1)
     rest = poly
     for at, other in enumerate(barred):
         if number_in(other) is None and number_in(rest) is None:
             shared = primitive(common(rest, other))
-            while number_in(shared) is None:
+            while number_in(shared) is None and powers.get(at, 0) < MOST_AT_ONCE:
                 powers[at] = powers.get(at, 0) + 1
                 factor = times(factor, quotient(other, shared))
                 rest = quotient(rest, shared)
@@ -103,8 +111,11 @@ def settle(work, poly, powers, counts):
 
 
 def is_good(poly, barred):
-    """Whether a Poly is nowhere 0 where none of the barred ones is, as it divides a product of them."""
-    return bool(poly.terms) and number_in(without_barred(poly, barred)[1]) is not None
+    """Whether a Poly is nowhere 0 where none of the barred ones is, as it divides a product of some of them."""
+    if not poly.terms:
+        return False
+    powers, rest, _ = without_barred(poly, barred)
+    return number_in(rest) is not None and sum(powers.values()) <= MOST_FOR_GOOD
 
 
 def certificate(work, heads, powers, fronts):
@@ -129,5 +140,9 @@ def one_count(at):
 
 
 def parted(work, poly):
-    """The two states that a state is parted in, by what is left of a Poly without content and barred ones."""
-    return work.part(primitive(without_barred(poly, work.barred)[1]))
+    """The two states that a state is parted in, by what is left of a Poly without content and barred ones.
+
+    If nothing is left, by the Poly: it is then for having it among the barred ones, and the first state is closed.
+    """
+    rest = primitive(without_barred(poly, work.barred)[1])
+    return work.part(rest if number_in(rest) is None else primitive(poly))
