@@ -34,11 +34,11 @@ class Base:
         """Put a reducer in use, with the pairs that are needed."""
         below = [(least_multiple(self.order, old.lead, new.lead), old) for old in self.reducers]
         kept = needed_pairs(below, new)
-        self.pairs = [pair for pair in self.pairs if not self.is_spared(pair, new)]
+        self.pairs = [pair for pair in self.pairs if not self.spared(pair, new)]
         self.pairs.extend([self.pair_of(key, old, new) for key, old in kept])
         self.reducers = [old for old in self.reducers if not divides(new.lead, old.lead)] + [new]
 
-    def is_spared(self, pair, new):
+    def spared(self, pair, new):
         """Whether a pair is spared, as two pairs with a new reducer stand for it."""
         key = pair[1]
         if not divides(new.lead, key):

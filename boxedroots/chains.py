@@ -1,7 +1,7 @@
 """Chains of polynomials, in which one unknown comes behind the other, and papers about their roots."""
 
 from boxedroots.errors import NoChain, NoPolynomial
-from boxedroots.papers import is_free, paper_over
+from boxedroots.papers import lacks, paper_over
 from boxedroots.polys import Poly, lead, plus, slope, stands_in, times, top
 
 
@@ -19,7 +19,7 @@ def is_paper_by(many, chain, most, poly, thing):
     factor, counts, rest = thing
     if not stands_in(many, factor) or not are_polys(many, len(chain), counts) or not stands_in(many, rest):
         return False
-    if not rest.terms or not is_free(rest, [top(other) for other in chain]):
+    if not rest.terms or not lacks(rest, [top(other) for other in chain]):
         return False
     if any([bool(count.terms) for count in counts[most:]]):
         return False

@@ -5,7 +5,7 @@ from boxedroots.errors import NoCover, NoPoint
 from boxedroots.judging import is_number_to, is_point
 from boxedroots.packing import greatest_powers
 from boxedroots.polys import number_poly, raised, stands_in, times, top
-from boxedroots.systems import is_nought_at
+from boxedroots.systems import has_root_at
 
 MOST_TIMES = 1000
 
@@ -34,7 +34,7 @@ def leaf_of(system, cover, point):
     if not is_point(system.many, point):
         raise NoPoint()
     for number, (chain, barred) in enumerate(found):
-        if is_nought_at(chain, barred, point):
+        if has_root_at(chain, barred, point):
             return number
     return None
 
@@ -68,20 +68,20 @@ def states_behind(many, state, step):
     if name == "part" and many_parts == 2 and stands_in(many, step[1]):
         return [(equations + (step[1],), barred), (equations, barred + (step[1],))]
     if name == "add" and many_parts == 4 and stands_in(many, step[1]):
-        if is_sum(many, state, step[1], step[2], step[3]):
+        if adds_up(many, state, step[1], step[2], step[3]):
             return [(equations + (step[1],), barred)]
     if name == "drop" and many_parts == 4 and is_number_to(len(equations) - 1, step[1]):
         others = equations[:step[1]] + equations[step[1] + 1:]
-        if is_sum(many, (others, barred), equations[step[1]], step[2], step[3]):
+        if adds_up(many, (others, barred), equations[step[1]], step[2], step[3]):
             return [(others, barred)]
-    if name == "none" and many_parts == 3 and is_sum(many, state, number_poly(1), step[1], step[2]):
+    if name == "none" and many_parts == 3 and adds_up(many, state, number_poly(1), step[1], step[2]):
         return []
-    if name == "chain" and many_parts == 2 and is_leaf(many, state, step[1]):
+    if name == "chain" and many_parts == 2 and holds_as_leaf(many, state, step[1]):
         return []
     return None
 
 
-def is_sum(many, state, poly, powers, counts):
+def adds_up(many, state, poly, powers, counts):
     """Whether the barred ones, to their powers, times a Poly, times an integer, are the sum of counts times equations.
 
     The integer is not 0.
@@ -100,7 +100,7 @@ def is_sum(many, state, poly, powers, counts):
     whole = number_poly(1)
     for other, high in factors:
         whole = times(whole, raised(other, high))
-    return is_multiple(found, whole)
+    return matches(found, whole)
 
 
 def may_be_product(poly, factors):
@@ -117,7 +117,7 @@ def powers_together(rows):
     return [sum([powers[k] * many for powers, many in rows]) for k in range(len(rows[0][0]))]
 
 
-def is_multiple(one, other):
+def matches(one, other):
     """Whether a Poly is an integer, not 0, times another one, both not 0."""
     (_, above), (_, below) = one.terms[0], other.terms[0]
     if len(one.terms) != len(other.terms) or above % below != 0:
@@ -131,7 +131,7 @@ def chain_of(equations):
     return tuple([equations[at] for _, at in sorted(ranks)])
 
 
-def is_leaf(many, state, papers):
+def holds_as_leaf(many, state, papers):
     """Whether the equations of a state are a chain, and the papers are those for all that is needed."""
     chain = chain_of(state[0])
     if not is_chain(many, chain):

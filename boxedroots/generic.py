@@ -7,7 +7,7 @@ no chain is told, or one that does not serve, and other means are called for.
 from itertools import product
 
 from boxedroots.bases import complete
-from boxedroots.orders import BY_DEGREE, is_bounded, key_of
+from boxedroots.orders import BY_DEGREE, bounded_by, key_of
 from boxedroots.polys import degree, minus, number_poly, top, unknown_poly
 from boxedroots.staircase import Echelon, Stairs, base_by_tops, sum_of_keys
 from boxedroots.working import Work
@@ -30,7 +30,7 @@ def heights_of(polys, many):
             free.append(k)
     trial = Work(polys + held, [], [])
     reducers = complete(trial, BY_DEGREE)
-    if trial.over or not is_bounded(many, BY_DEGREE, [reducer.lead for reducer in reducers]):
+    if trial.over or not bounded_by(many, BY_DEGREE, [reducer.lead for reducer in reducers]):
         return None
     heights = {}
     for poly in base_by_tops(many, reducers):
@@ -47,7 +47,7 @@ def generic_chain(polys, reducers, many):
         return None
     chain = []
     for k in sorted(heights):
-        fitting = [poly for poly in polys if top(poly) == k and is_within(poly, k, heights)]
+        fitting = [poly for poly in polys if top(poly) == k and fits(poly, k, heights)]
         poly = fitting[0] if fitting else sought(k, heights, reducers, many)
         if poly is None or top(poly) != k:
             return None
@@ -55,7 +55,7 @@ def generic_chain(polys, reducers, many):
     return chain
 
 
-def is_within(poly, k, heights):
+def fits(poly, k, heights):
     """Whether a Poly has the height by an unknown, and lesser ones by those below."""
     return all([degree(poly, low) < heights[low] + (low == k) for low in heights if low <= k])
 

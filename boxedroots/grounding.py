@@ -5,11 +5,11 @@ from boxedroots.common import content, number_in, primitive, quotient
 from boxedroots.factors import easy_factor
 from boxedroots.generic import generic_chain
 from boxedroots.normals import drop_others, normal_over, put_normal
-from boxedroots.orders import BY_DEGREE, BY_TOPS, is_bounded
+from boxedroots.orders import BY_DEGREE, BY_TOPS, bounded_by
 from boxedroots.polys import lead, top
 from boxedroots.reducing import Reducer, counts_of, poly_from, remainder_of, told
 from boxedroots.staircase import base_by_tops
-from boxedroots.working import is_good, one_count, parted, settle, without_barred
+from boxedroots.working import never_nought, one_count, parted, settle, without_barred
 
 # A base by tops is first tried with integers of no more bits than these on the way.
 LIMIT = 600
@@ -76,7 +76,7 @@ def tidy(work):
             work.drop(at, {}, {})
         elif dropped_by_divisor(work, at):
             at = work.known
-        elif is_tidy(work, poly):
+        elif tidy_already(work, poly):
             at += 1
         else:
             replace_tidily(work, at)
@@ -95,7 +95,7 @@ def dropped_by_divisor(work, at):
     return bool(fronts)
 
 
-def is_tidy(work, poly):
+def tidy_already(work, poly):
     """Whether nothing can be divided out of an equation, and an unknown stands in it."""
     return number_in(poly) is None and content(poly) == 1 and without_barred(poly, work.barred)[1] == poly
 
@@ -116,7 +116,7 @@ def based(work, many):
     if work.over:
         return []
     keep_only(work, reducers, start)
-    if work.order == BY_DEGREE and is_bounded(many, BY_DEGREE, [reducer.lead for reducer in reducers]):
+    if work.order == BY_DEGREE and bounded_by(many, BY_DEGREE, [reducer.lead for reducer in reducers]):
         work.order = BY_TOPS
         start = len(work.equations)
         reducers = put_all(work, base_by_tops(many, reducers), reducers)
@@ -183,7 +183,7 @@ def thinned(work, polys, reducers):
         return []
     chain, normals = [], {}
     for index, poly in enumerate(polys):
-        if not is_good(lead(poly, top(poly)), work.barred):
+        if not never_nought(lead(poly, top(poly)), work.barred):
             told_of = normal_over(tuple(chain), poly)
             if told_of is None:
                 return parted(work, lead(poly, top(poly)))

@@ -6,7 +6,7 @@ from boxedroots.normals import drop_by, normal_over, put_normal
 from boxedroots.papers import chain_remainder, heads_of, paper_over
 from boxedroots.polys import Poly, degree, lead, slope, times, top
 from boxedroots.splitting import factor_at, quotient_over
-from boxedroots.working import certificate, is_good, parted, settle, without_barred
+from boxedroots.working import certificate, never_nought, parted, settle, without_barred
 
 
 def advance(work):
@@ -71,15 +71,15 @@ def split(work, places, chain, poly):
     if not rest.terms:
         return vanish(work, places, chain, poly)
     at, factor, own = factor_at(chain, rest)
-    blocker = poly if own and is_good(poly, work.barred) else factor
-    if is_good(blocker, work.barred):
+    blocker = poly if own and never_nought(poly, work.barred) else factor
+    if never_nought(blocker, work.barred):
         return divide_out(work, places, chain, at, factor, blocker)
     factor = primitive(without_barred(factor, work.barred)[1])
     k = top(chain[at])
     whole = quotient(chain[at], factor)
     if whole is None:
         for head in heads_of(chain[:at]) + [lead(factor, k)]:
-            if not is_good(head, work.barred):
+            if not never_nought(head, work.barred):
                 return parted(work, head)
     parts = work.part(factor)
     if degree(factor, k) > 0:
@@ -102,9 +102,9 @@ def vanish(work, places, chain, poly):
     _, powers, fronts, _ = chain_remainder(poly, chain)
     heads = heads_of(chain)
     for head, high in zip(heads, powers):
-        if high > 0 and not is_good(head, work.barred):
+        if high > 0 and not never_nought(head, work.barred):
             return parted(work, head)
-    if is_good(poly, work.barred):
+    if never_nought(poly, work.barred):
         row = {place: front for place, front in zip(places, fronts)}
         told = certificate(work, heads + [poly], powers + [1], row)
         work.close(told[0], told[1])
@@ -128,7 +128,7 @@ def divide_out(work, places, chain, at, factor, blocker):
     if whole is None:
         needed = needed + heads_of(ahead) + [lead(bare, top(poly))]
     for head in needed:
-        if not is_good(head, work.barred):
+        if not never_nought(head, work.barred):
             return parted(work, head)
     row = {place: front for place, front in zip(places, fronts)}
     told = certificate(work, heads + [blocker], powers + [1], row)

@@ -38,7 +38,7 @@ def least_multiple(order, one, other):
     return key_of(order, [max(high, low) for high, low in zip(powers_of(order, one), powers_of(order, other))])
 
 
-def is_bounded(many, order, leads):
+def bounded_by(many, order, leads):
     """Whether a power of each unknown alone is one of some keys."""
     found = [False] * many
     for lead in leads:

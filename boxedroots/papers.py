@@ -41,7 +41,7 @@ def plain_remainder(poly, chain):
     return many, [0] * len(chain), row, poly_from(BY_TOPS, rest)
 
 
-def is_free(poly, tops):
+def lacks(poly, tops):
     """Whether none of some unknowns stands in a Poly."""
     return all([degree(poly, k) == 0 for k in tops])
 
@@ -49,9 +49,9 @@ def is_free(poly, tops):
 def paper_over(chain, poly):
     """A paper, or None if there is none; the leading count of each of the chain has one by those ahead."""
     tops = [top(other) for other in chain]
-    if is_free(poly, tops):
+    if lacks(poly, tops):
         return (number_poly(1), tuple([Poly(()) for _ in chain]), poly) if poly.terms else None
-    if all([is_free(head, tops) for head in heads_of(chain)]):
+    if all([lacks(head, tops) for head in heads_of(chain)]):
         return flat_paper(chain, poly)
     return traced_paper(chain, poly)
 

@@ -33,10 +33,10 @@ class System:
 
 def is_root(system, thing):
     """Whether a thing is a tuple of fractions at which the equations are 0, and the barred ones are not."""
-    return is_point(system.many, thing) and is_nought_at(system.equations, system.barred, thing)
+    return is_point(system.many, thing) and has_root_at(system.equations, system.barred, thing)
 
 
-def is_nought_at(equations, barred, point):
+def has_root_at(equations, barred, point):
     """Whether all equations, and none of the barred ones, are 0 at a tuple of fractions."""
     place = point + ((0, 1),) * (UNKNOWNS - len(point))
     if any([worth(poly, place)[0] != 0 for poly in equations]):

@@ -110,7 +110,7 @@ def settle(work, poly, powers, counts):
         work.close(together, row)
 
 
-def is_good(poly, barred):
+def never_nought(poly, barred):
     """Whether a Poly is nowhere 0 where none of the barred ones is, as it divides a product of some of them."""
     if not poly.terms:
         return False

@@ -5,10 +5,10 @@ from itertools import product
 
 from boxedroots.common import common, content, content_beside, number_in, primitive, primitive_beside, quotient
 from boxedroots.factors import easy_factor
-from boxedroots.orders import BY_DEGREE, BY_TOPS, divides, is_bounded, key_of, least_multiple, powers_of
+from boxedroots.orders import BY_DEGREE, BY_TOPS, divides, bounded_by, key_of, least_multiple, powers_of
 from boxedroots.papers import chain_remainder, heads_of
 from boxedroots.polys import degree, number_poly, plus, power, times, top
-from boxedroots.working import is_good, without_barred
+from boxedroots.working import never_nought, without_barred
 from helping import NOUGHT, ONE, X, Y, Z, Dice, linear
 from judge import products_together, product_with, sum_of
 
@@ -83,8 +83,8 @@ class CommonTest(unittest.TestCase):
                 most = tuple([max(a, b) for a, b in zip(one, other)])
                 self.assertEqual(least_multiple(order, keys[one], keys[other]), keys[most])
             leads = [keys[row] for row in ((3, 0, 0), (1, 1, 0), (0, 2, 0))]
-            self.assertIs(is_bounded(2, order, leads), True)
-            self.assertIs(is_bounded(3, order, leads), False)
+            self.assertIs(bounded_by(2, order, leads), True)
+            self.assertIs(bounded_by(3, order, leads), False)
 
     def test_remainders_by_chains(self):
         dice = Dice(34)
@@ -106,7 +106,7 @@ class CommonTest(unittest.TestCase):
             (X, True), (times(X, power(Y, 3)), True), (number_poly(-5), True), (NOUGHT, False), (linear(0, 3, 3), True),
             (Z, False), (times(X, Z), False), (plus(X, Y), False), (barred[0], True), (linear(0, 0, 0, 7), True),
         ):
-            self.assertIs(is_good(poly, barred), good)
+            self.assertIs(never_nought(poly, barred), good)
             if poly.terms:
                 powers, rest, factor = without_barred(poly, barred)
                 whole = product_with(barred, [powers.get(at, 0) for at in range(3)], rest)

@@ -77,6 +77,31 @@ KNOWN = (
     (12, System(3, (minus(power(X, 3), Y), minus(YY, X), minus(ZZ, plus(X, number(3)))), ())),
 )
 
+LINES = tuple([minus(unknown, number(2)) for unknown in (XX, YY, ZZ)])
+# Here what is to be divided out divides only over what is ahead in the chain.
+OVER = (
+    (2, System(2, LINES[:2], (minus(X, Y),))), (2, System(3, LINES, (minus(X, Y), minus(Y, Z)))),
+    (0, System(3, LINES, (minus(X, Y), minus(Y, Z), minus(X, Z)))), (4, System(3, LINES, (minus(XY, number(2)),))),
+    (2, System(2, (LINES[0], plus(minus(YY, times(number(2), XY)), number(2))), ())),
+    (2, System(2, (LINES[0], power(plus(minus(YY, times(number(2), XY)), number(2)), 2)), (plus(Y, X),))),
+    (4, System(3, (LINES[0], minus(YY, X), plus(minus(ZZ, times(number(2), YZ)), X)), ())),
+    (4, System(3, (LINES[0], minus(YY, X), minus(ZZ, X)), (minus(Y, Z),))),
+    (None, System(3, (minus(YY, X), minus(ZZ, X)), (minus(Z, Y),))),
+    (None, System(3, (minus(YY, X), minus(ZZ, X)), (minus(Z, Y), plus(XY, ONE)))),
+    (0, System(3, (minus(YY, X), minus(ZZ, X)), (minus(Z, Y), plus(Z, Y)))),
+    (None, System(3, (minus(YY, X), plus(minus(ZZ, times(number(2), YZ)), X)), ())),
+    (None, System(3, (minus(times(X, YY), ONE), minus(times(X, ZZ), ONE)), (minus(Z, Y),))),
+    (None, System(3, (minus(times(X, YY), ONE), plus(times(X, minus(ZZ, times(number(2), YZ))), ONE)), ())),
+    (None, System(3, (minus(times(X, YY), ONE), minus(times(Y, ZZ), ONE)), (minus(XX, Y),))),
+    (None, System(3, (minus(times(linear(1, 1), YY), X), times(plus(XY, Z), minus(times(linear(1, 1), ZZ), X))), (minus(Z, Y),))),
+    (1, System(2, (minus(XX, X), times(X, minus(YY, ONE)), times(minus(X, ONE), minus(Y, number(3)))), (Y, minus(YY, ONE)))),
+    (3, System(2, (minus(XX, X), times(X, minus(YY, ONE)), times(minus(X, ONE), minus(Y, number(3)))), ())),
+    (2, System(2, (times(linear(-1, 1), linear(0, 0, 1)), minus(times(linear(-1, 1), YY), Y), minus(YY, times(Y, linear(0, 0, 4)))), ())),
+    (2, System(2, (linear(-2, 0, 1), minus(XY, ONE)), (minus(plus(Y, X), number(9)),))),
+    (4, System(3, (linear(-2, 0, 1), minus(times(linear(1, 1), Y), ONE), minus(times(plus(X, Y), ZZ), Y)), ())),
+    (8, System(3, (LINES[0], minus(YY, times(X, Y)), minus(times(plus(Y, ONE), ZZ), ONE), minus(times(ZZ, Y), minus(ONE, ZZ))), ())),
+)
+
 
 class CoverOfTest(unittest.TestCase):
     def held(self, system):
@@ -94,6 +119,11 @@ class CoverOfTest(unittest.TestCase):
 
     def test_known_systems(self):
         for many, system in KNOWN:
+            self.held(system)
+            self.assertEqual(roots_told(system), many)
+
+    def test_what_divides_only_over_a_chain(self):
+        for many, system in OVER:
             self.held(system)
             self.assertEqual(roots_told(system), many)
 
