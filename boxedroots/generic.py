@@ -7,6 +7,7 @@ no chain is told, or one that does not serve, and other means are called for.
 from itertools import product
 
 from boxedroots.bases import complete
+from boxedroots.common import content_beside, number_in, primitive
 from boxedroots.orders import BY_DEGREE, bounded_by, key_of
 from boxedroots.polys import degree, minus, number_poly, top, unknown_poly
 from boxedroots.staircase import Echelon, Stairs, base_by_tops, sum_of_keys
@@ -48,11 +49,29 @@ def generic_chain(polys, reducers, many):
     chain = []
     for k in sorted(heights):
         fitting = [poly for poly in polys if top(poly) == k and fits(poly, k, heights)]
-        poly = fitting[0] if fitting else sought(k, heights, reducers, many)
+        poly = fitting[0] if fitting else sought(k, heights, reducers, k + 1, many)
         if poly is None or top(poly) != k:
             return None
         chain.append(poly)
     return chain
+
+
+def generic_multiple(polys, reducers, many):
+    """The pair of a Poly of the ideal and a factor of it in free unknowns alone, None if none is found.
+
+    That is where parts of the ideal that have no such unknowns free are in the way of a chain.
+    """
+    heights = heights_of(polys, many)
+    if heights is None:
+        return None
+    for k in sorted(heights):
+        poly = sought(k, heights, reducers, many, many)
+        if poly is None:
+            return None
+        factor = primitive(content_beside(poly, [low for low in heights if low <= k]))
+        if number_in(factor) is None:
+            return (poly, factor)
+    return None
 
 
 def fits(poly, k, heights):
@@ -60,15 +79,18 @@ def fits(poly, k, heights):
     return all([degree(poly, low) < heights[low] + (low == k) for low in heights if low <= k])
 
 
-def sought(k, heights, reducers, many):
-    """A Poly of the ideal, of this top and the heights, of the least degree in all, None if none is found."""
+def sought(k, heights, reducers, below, many):
+    """A Poly of the ideal, of the heights up to k, in free unknowns below a number, of the least degree in all.
+
+    None if none is found.
+    """
     stairs = Stairs(many, reducers)
     echelon = Echelon()
     rows = {}
     high = 0
     ahead = [()]
     while ahead and len(rows) <= MOST_ROWS:
-        ahead = powers_within(k, heights, high)
+        ahead = powers_within(k, heights, below, high)
         for powers in ahead:
             key = key_of(BY_DEGREE, powers)
             rows[key] = stairs.row_behind(key, powers, rows)
@@ -79,10 +101,13 @@ def sought(k, heights, reducers, many):
     return None
 
 
-def powers_within(k, heights, high):
-    """The list of the powers of x, y and z, as high in all, within the heights of the unknowns up to this one."""
+def powers_within(k, heights, below, high):
+    """The list of the powers of x, y and z, as high in all, within the heights up to k, of unknowns below a number."""
     mosts = [0, 0, 0]
-    for low in range(k + 1):
-        mosts[low] = min(high, heights[low] - (low < k)) if low in heights else high
+    for low in range(below):
+        if low not in heights:
+            mosts[low] = high
+        elif low <= k:
+            mosts[low] = min(high, heights[low] - (low < k))
     ranges = [list(range(most + 1)) for most in mosts]
     return [powers for powers in product(ranges[0], ranges[1], ranges[2]) if sum(powers) == high]

@@ -3,7 +3,7 @@
 from boxedroots.bases import complete
 from boxedroots.common import content, number_in, primitive, quotient
 from boxedroots.factors import easy_factor
-from boxedroots.generic import generic_chain
+from boxedroots.generic import generic_chain, generic_multiple
 from boxedroots.normals import drop_others, normal_over, put_normal
 from boxedroots.orders import BY_DEGREE, BY_TOPS, bounded_by
 from boxedroots.polys import lead, top
@@ -28,20 +28,29 @@ def ground(work, many):
     if parts:
         return parts
     reducers = based(work, many)
-    if work.order == BY_DEGREE and not work.over:
-        parts = factored(work)
-        if parts:
+    if work.over:
+        return []
+    if work.order == BY_TOPS:
+        return thinned(work, least_by_tops(work), reducers)
+    return factored(work) or unbounded(work, many, reducers)
+
+
+def unbounded(work, many, reducers):
+    """As ground, where the equations are a base by degree, and there is no end of what it does not reduce."""
+    by_tops = based_by_tops(work, LIMIT) if work.hint is None else None
+    if by_tops is None:
+        if work.hint is None:
+            work.hint = generic_chain(work.equations, reducers, many)
+        parts = thinned(work, work.hint, reducers)
+        if work.ready or work.over:
             return parts
-        by_tops = based_by_tops(work, LIMIT) if work.hint is None else None
-        if by_tops is None:
-            if work.hint is None:
-                work.hint = generic_chain(work.equations, reducers, many)
-            parts = thinned(work, work.hint, reducers)
-            if work.ready or work.over:
-                return parts
-            by_tops = based_by_tops(work, None)
-        reducers = by_tops
-    return [] if work.over else thinned(work, least_by_tops(work), reducers)
+        told_of = generic_multiple(work.equations, reducers, many)
+        if told_of is not None:
+            put_all(work, [told_of[0]], reducers)
+            work.hint = None
+            return work.part(told_of[1])
+        by_tops = based_by_tops(work, None)
+    return [] if work.over else thinned(work, least_by_tops(work), by_tops)
 
 
 def factored(work):

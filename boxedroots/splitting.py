@@ -1,6 +1,7 @@
 """Parts of a chain at which a polynomial is 0: common divisors over what is ahead in the chain."""
 
 from boxedroots.common import common, primitive_beside, quotient
+from boxedroots.divide import divided_shortly
 from boxedroots.papers import chain_remainder, paper_over
 from boxedroots.polys import degree, lead, number_poly, times, top
 
@@ -25,7 +26,8 @@ def factor_at(chain, poly):
             found, factor, _ = factor_at(ahead, chain_remainder(head, ahead)[3])
             return (found, factor, False)
         other = normal(other, paper[0], ahead, k)
-        one, other = other, normal(one, number_poly(1), ahead + (other,), k)
+        # Free unknowns above this top may stand in them on the way, so that this is no remainder by a chain.
+        one, other = other, normal(divided_shortly(one, other, k)[2], number_poly(1), ahead, k)
     return (at, one, True)
 
 
