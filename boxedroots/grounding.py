@@ -3,7 +3,7 @@
 from boxedroots.bases import complete
 from boxedroots.common import content, number_in, primitive, quotient
 from boxedroots.factors import easy_factor
-from boxedroots.generic import generic_chain, generic_multiple
+from boxedroots.holding import generic_chain, generic_multiple
 from boxedroots.normals import drop_others, normal_over, put_normal
 from boxedroots.orders import BY_DEGREE, BY_TOPS, bounded_by
 from boxedroots.polys import lead, top

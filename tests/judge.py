@@ -131,6 +131,8 @@ def judged(system, steps):
             right = within(many, step[1]) and is_identity(many, barred, step[2], step[1], step[3], equations)
             states.append((equations + [step[1]], barred))
         elif kind == "drop":
+            if type(step[1]) is not int or not 0 <= step[1] < len(equations):
+                return number, []
             others = equations[:step[1]] + equations[step[1] + 1:]
             right = is_identity(many, barred, step[2], equations[step[1]], step[3], others)
             states.append((others, barred))

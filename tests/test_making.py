@@ -127,6 +127,14 @@ class CoverOfTest(unittest.TestCase):
             self.held(system)
             self.assertEqual(roots_told(system), many)
 
+    def test_covers_that_were_changed(self):
+        dice = Dice(7)
+        for _, system in KNOWN + OVER:
+            cover = cover_of(system)
+            for _ in range(12):
+                wrong = changed(dice, cover)
+                self.assertEqual(cover_fault(system, wrong), judged(system, wrong)[0])
+
     def test_equal_calls(self):
         for _, system in KNOWN:
             self.assertEqual(cover_of(system), cover_of(System(system.many, system.equations, system.barred)))
@@ -225,6 +233,31 @@ class CoverOfTest(unittest.TestCase):
         ):
             self.held(system)
             self.assertEqual(roots_told(system), many)
+
+
+def changed(dice, cover):
+    """A cover with steps left out, twice there, exchanged, or with a part of a step changed a little."""
+    at, other = dice.throw(0, len(cover) - 1), dice.throw(0, len(cover) - 1)
+    kind = dice.throw(0, 8)
+    if kind == 0:
+        return cover[:at] + cover[at + 1:]
+    if kind == 1:
+        return cover[:at + 1] + cover[at:]
+    if kind == 2:
+        low, high = min(at, other), max(at, other)
+        return cover[:low] + (cover[high],) + cover[low + 1:high] + (cover[low],) * (low < high) + cover[high + 1:]
+    return cover[:at] + ((cover[at][0],) + changed_part(dice, cover[at][1:]),) + cover[at + 1:]
+
+
+def changed_part(dice, thing):
+    if isinstance(thing, Poly):
+        return dice.choose([plus(thing, X), times(thing, number(2)), times(thing, number(-1)), NOUGHT, ONE, thing])
+    if isinstance(thing, int):
+        return thing + dice.throw(-1, 1)
+    if not thing:
+        return thing
+    at = dice.throw(0, len(thing) - 1)
+    return thing[:at] + (changed_part(dice, thing[at]),) + thing[at + 1:]
 
 
 def is_leaf_root(many, chain, barred, point):
