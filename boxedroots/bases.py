@@ -2,7 +2,7 @@
 
 from math import gcd
 
-from boxedroots.common import lessened
+from boxedroots.common import content, lessened
 from boxedroots.orders import BY_TOPS, divides, least_multiple, powers_of
 from boxedroots.polys import Poly, plus, scaled
 from boxedroots.reducing import Reducer, poly_from, remainder_of, told
@@ -129,7 +129,4 @@ def counts_by_place(order, used, sign):
 
 def add_divided(work, poly, counts):
     """Add an equation that is the sum of counts times equations, divided by its content."""
-    number = 0
-    for _, count in poly.terms:
-        number = gcd(number, count)
-    settle(work, lessened(poly, number), {}, counts)
+    settle(work, lessened(poly, content(poly)), {}, counts)

@@ -158,7 +158,7 @@ def put_all(work, polys, reducers):
     found = []
     for poly in polys:
         if poly not in work.equations:
-            many, used, _ = told(remainder_of(counts_of(BY_DEGREE, poly), reducers))
+            _, used, _ = told(remainder_of(counts_of(BY_DEGREE, poly), reducers))
             work.put(poly, {}, {at: poly_from(BY_DEGREE, row) for at, row in used.items()})
         found.append(Reducer(work.equations.index(poly), BY_TOPS, poly))
     return found
@@ -174,7 +174,7 @@ def keep_only(work, reducers, start):
             powers, counts = work.grown[at]
             work.drop(at, powers, counts)
         else:
-            many, used, _ = told(remainder_of(counts_of(work.order, work.equations[at]), reducers))
+            _, used, _ = told(remainder_of(counts_of(work.order, work.equations[at]), reducers))
             work.drop(at, {}, {place: poly_from(work.order, row) for place, row in used.items()})
         for reducer in reducers:
             if reducer.at > at:

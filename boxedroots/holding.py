@@ -102,7 +102,7 @@ def sought(k, heights, reducers, below, many):
 
 
 def powers_within(k, heights, below, high):
-    """The list of the powers of x, y and z, as high in all, within the heights up to k, of unknowns below a number."""
+    """The list of the powers, as high in all, within the heights up to k, of unknowns below a number."""
     mosts = [0, 0, 0]
     for low in range(below):
         if low not in heights:
@@ -110,4 +110,4 @@ def powers_within(k, heights, below, high):
         elif low <= k:
             mosts[low] = min(high, heights[low] - (low < k))
     ranges = [list(range(most + 1)) for most in mosts]
-    return [powers for powers in product(ranges[0], ranges[1], ranges[2]) if sum(powers) == high]
+    return [powers + (0,) for powers in product(ranges[0], ranges[1], ranges[2]) if sum(powers) == high]

@@ -114,7 +114,7 @@ def vanish(work, places, chain, poly):
 
 
 def divide_out(work, places, chain, at, factor, blocker):
-    """Divide a factor out of one of a chain, as a good Poly, the blocker, would be 0 where it is."""
+    """Divide a factor out of one of a chain, as the blocker, which is never 0, would be 0 where the factor is."""
     poly, ahead = chain[at], chain[:at]
     left = quotient_over(poly, factor, ahead)
     bare = without_barred(left, work.barred)[1]

@@ -34,9 +34,10 @@ def put_normal(work, at, places, told):
 
 
 def drop_others(work, places):
-    """Drop all equations but those at some places, a chain whose leading counts are good, and tell whether it is done.
+    """Drop all equations but those at some places, a chain, and tell whether it is done.
 
-    It is not, and none is dropped, if the chain does not reduce all others to 0.
+    The leading counts are never 0 where none of the barred ones is. It is not done, and none is dropped, if the chain
+    does not reduce all others to 0.
     """
     chain = tuple([work.equations[at] for at in places])
     found = []
@@ -56,7 +57,7 @@ def drop_others(work, places):
 
 
 def drop_by(work, at, places, chain):
-    """Drop an equation that the equations at some places, a chain whose leading counts are good, reduce to 0."""
+    """Drop an equation that a chain, of the equations at some places, with such leading counts, reduces to 0."""
     _, powers, fronts, _ = chain_remainder(work.equations[at], chain)
     told = certificate(work, heads_of(chain), powers, {place: front for place, front in zip(places, fronts)})
     work.drop(at, told[0], told[1])

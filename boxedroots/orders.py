@@ -1,4 +1,4 @@
-"""Orders of products of powers of x, y and z: each product is a KEY, an integer, greater ones behind.
+"""Orders of products of powers of unknowns: each product is a KEY, an integer, greater ones behind.
 
 Adding keys multiplies the products. A key has fields of so many bits, each with a spare bit that is 0.
 """
@@ -7,16 +7,17 @@ WIDTH = 32
 FIELD = 0xFFFFFFFF
 # The spare bit of each of five fields.
 SPARE = 0x8000000080000000800000008000000080000000
-# By the power of z, then of y, then of x; or by the degree in all, then by that in y and z, then in z.
+# By the power of w, then of z, of y, of x; or, for x, y and z alone, by the degree in all, then by that in y and z,
+# then in z.
 BY_TOPS = 0
 BY_DEGREE = 1
 
 
 def key_of(order, powers):
-    """The key of powers of x, y and z."""
-    x, y, z = powers[0], powers[1], powers[2]
+    """The key of the powers of x, y, z and w."""
+    x, y, z, w = powers
     if order == BY_TOPS:
-        return (((z << WIDTH) + y) << WIDTH) + x
+        return (((((w << WIDTH) + z) << WIDTH) + y) << WIDTH) + x
     # The last two fields only serve to see whether one key divides another one.
     return (((((((x + y + z) << WIDTH) + y + z) << WIDTH) + z << WIDTH) + x) << WIDTH) + y
 
@@ -24,7 +25,7 @@ def key_of(order, powers):
 def powers_of(order, key):
     """The powers of x, y, z and w of a key."""
     if order == BY_TOPS:
-        return (key & FIELD, (key >> WIDTH) & FIELD, key >> 2 * WIDTH, 0)
+        return (key & FIELD, (key >> WIDTH) & FIELD, (key >> 2 * WIDTH) & FIELD, key >> 3 * WIDTH)
     return ((key >> WIDTH) & FIELD, key & FIELD, (key >> 2 * WIDTH) & FIELD, 0)
 
 

@@ -3,6 +3,7 @@
 from heapq import heappop, heappush
 from math import gcd, lcm
 
+from boxedroots.judging import UNKNOWNS
 from boxedroots.orders import BY_DEGREE, BY_TOPS, divides, key_of, powers_of
 from boxedroots.polys import gathered
 from boxedroots.reducing import remainder_of, told
@@ -10,7 +11,7 @@ from boxedroots.reducing import remainder_of, told
 
 def unknown_keys(many, order):
     """The keys of the unknowns."""
-    return [key_of(order, [1 if k == place else 0 for k in range(3)]) for place in range(many)]
+    return [key_of(order, [1 if k == place else 0 for k in range(UNKNOWNS)]) for place in range(many)]
 
 
 class Stairs:

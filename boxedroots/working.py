@@ -119,9 +119,9 @@ def never_nought(poly, barred):
 
 
 def certificate(work, heads, powers, fronts):
-    """The pair (powers, counts) of a step, if good Polys, each so often, times what it is about are fronts.
+    """The pair (powers, counts) of a step, if heads, each to its power, times what it is about come to fronts.
 
-    fronts is a dict from the numbers of equations.
+    The heads are never 0 where none of the barred ones is; fronts is a dict from the numbers of equations.
     """
     together = {}
     whole = number_poly(1)

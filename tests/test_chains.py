@@ -243,6 +243,16 @@ class PaperForTest(unittest.TestCase):
         self.assertEqual(paper_for(3, chain, XZ), paper_for(3, chain, XZ))
         self.assertEqual([poly.terms for poly in chain], before)
 
+    def test_the_fourth_unknown(self):
+        chain = (ROOT, minus(power(W, 2), plus(X, Y)))
+        self.assertIs(is_chain(4, chain), True)
+        self.assertIs(is_chain(3, chain), False)
+        self.assertIs(is_regular(4, chain), True)
+        self.assertIs(is_regular(4, (power(W, 2),)), False)
+        for poly in (W, plus(times(W, Z), X), plus(W, ONE)):
+            self.assertTrue(is_right_paper(4, chain, dict(poly.terms), paper_for(4, chain, poly)))
+        self.assertIsNone(paper_for(4, chain, minus(power(W, 4), plus(times(TWO, XY), plus(TWO, power(Y, 2))))))
+
     def test_powers_beyond_those_by_hand(self):
         high = power(power(X, 60), 60)
         self.assertIs(is_regular(1, (minus(high, ONE),)), True)

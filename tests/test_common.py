@@ -69,7 +69,7 @@ class CommonTest(unittest.TestCase):
             self.assertIsNone(number_in(quotient(poly, found)))
 
     def test_orders(self):
-        rows = list(product(range(4), repeat=3))
+        rows = [row + (0,) for row in product(range(4), repeat=3)]
         for order in (BY_TOPS, BY_DEGREE):
             keys = {row: key_of(order, row) for row in rows}
             ranks = sorted(rows, key=lambda row: row[::-1] if order == BY_TOPS else (sum(row), -row[0], -row[1]))
@@ -77,12 +77,12 @@ class CommonTest(unittest.TestCase):
             dice = Dice(33)
             for _ in range(300):
                 one, other = dice.choose(rows), dice.choose(rows)
-                self.assertEqual(powers_of(order, keys[one]), one + (0,))
+                self.assertEqual(powers_of(order, keys[one]), one)
                 self.assertEqual(keys[one] + keys[other], key_of(order, [a + b for a, b in zip(one, other)]))
                 self.assertIs(divides(keys[one], keys[other]), all(a <= b for a, b in zip(one, other)))
                 most = tuple([max(a, b) for a, b in zip(one, other)])
                 self.assertEqual(least_multiple(order, keys[one], keys[other]), keys[most])
-            leads = [keys[row] for row in ((3, 0, 0), (1, 1, 0), (0, 2, 0))]
+            leads = [keys[row] for row in ((3, 0, 0, 0), (1, 1, 0, 0), (0, 2, 0, 0))]
             self.assertIs(bounded_by(2, order, leads), True)
             self.assertIs(bounded_by(3, order, leads), False)
 
