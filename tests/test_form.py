@@ -42,7 +42,7 @@ BARRED_NAMES = set(
 )
 BARRED_NODES = (
     ast.Global, ast.Nonlocal, ast.AsyncFor, ast.AsyncFunctionDef, ast.AsyncWith, ast.Await, ast.Yield, ast.YieldFrom,
-    ast.GeneratorExp, ast.Try, ast.With, ast.Match, ast.Lambda, ast.Starred, ast.NamedExpr, ast.Import, ast.AnnAssign,
+    ast.GeneratorExp, ast.With, ast.Match, ast.Lambda, ast.Starred, ast.NamedExpr, ast.Import, ast.AnnAssign,
     ast.Div, ast.MatMult, ast.Assert,
 )
 
@@ -160,6 +160,18 @@ class FormTest(unittest.TestCase):
             self.fail(f"{name}, line {getattr(node, 'lineno', '?')}: {type(node).__name__}")
         for name, node in nodes(ast.Constant):
             self.assertNotIsInstance(node.value, (float, complex), name)
+
+    def test_l19_errors(self):
+        own = {node.name for node in tree_of(FOLDER / "errors.py").body if isinstance(node, ast.ClassDef)}
+        for name, node in nodes(ast.Try):
+            self.assertEqual((node.orelse, node.finalbody), ([], []), f"{name}, line {node.lineno}")
+            for handler in node.handlers:
+                self.assertIn(handler.type.id, own, f"{name}, line {node.lineno}")
+                self.assertIsNone(handler.name)
+        for name, node in nodes(ast.Raise):
+            self.assertIsInstance(node.exc, ast.Call, f"{name}, line {node.lineno}")
+            self.assertIn(node.exc.func.id, own)
+            self.assertIsNone(node.cause)
 
     def test_l8_builtins(self):
         for file in FILES:

@@ -21,10 +21,29 @@ INTERFACE = {
         "is_regular": ["many", "thing"], "needed": ["many", "chain"], "paper_for": ["many", "chain", "poly"],
     },
     "boxedroots.making": {"cover_of": ["system"]},
+    "boxedroots.telling": {
+        "many_roots": ["system"], "has_root": ["system"], "is_endless": ["system"], "vanishes": ["system", "poly"],
+        "vanishing": ["system", "poly"], "same_roots": ["one", "other"], "met": ["one", "other"],
+    },
+    "boxedroots.bernstein": {
+        "counts_over": ["poly", "box"], "sign_over": ["poly", "box"], "holds_in": ["poly", "k", "box", "bound"],
+        "width_told": ["poly", "bound"],
+    },
+    "boxedroots.boxings": {
+        "boxing_fault": ["chain", "thing"], "is_boxing": ["chain", "thing"], "boxes": ["chain", "boxing"],
+        "boxing_of": ["chain"],
+    },
+    "boxedroots.numbers": {
+        "number_of": ["fraction"], "sum_of": ["one", "other"], "difference_of": ["one", "other"],
+        "product_of": ["one", "other"], "quotient_of": ["one", "other"], "root_of": ["number", "many"],
+        "stretch_of": ["number", "width"], "floor_of": ["number", "many"], "sign_of": ["poly", "number"],
+        "compared": ["one", "other"], "poly_of": ["number"], "as_fraction": ["number"], "real_roots": ["poly"],
+    },
 }
 CLASSES = {
     ("boxedroots.polys", "Poly"): (["terms"], ["__init__", "__eq__"]),
     ("boxedroots.systems", "System"): (["many", "equations", "barred"], ["__init__", "__eq__"]),
+    ("boxedroots.numbers", "Number"): (["poly", "low", "high"], ["__init__", "__eq__"]),
 }
 
 
