@@ -42,8 +42,9 @@ def told_of(line, low, high):
     found = single_root(line, low, high)
     if found is None:
         return None
-    if found[0] == found[1]:
-        return (-found[0][0], found[0][1]), found[0], found[0]
+    if found[0] == found[1] or len(line) == 2:
+        place = found[0] if found[0] == found[1] else ratio(-line[0], line[1])
+        return (-place[0], place[1]), place, place
     sign = sign_at(line, found[1])
     return tuple([sign * count for count in line]), found[0], found[1]
 
@@ -84,6 +85,8 @@ def sign_beside(number, place):
 def floor_by(number, under):
     """The greatest integer that is at most the number times an integer above 0."""
     low = number.low[0] * under // number.low[1]
+    if number.low == number.high:
+        return low
     high = number.high[0] * under // number.high[1] + 1
     while high - low > 1:
         middle = (low + high) // 2

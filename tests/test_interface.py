@@ -39,11 +39,19 @@ INTERFACE = {
         "stretch_of": ["number", "width"], "floor_of": ["number", "many"], "sign_of": ["poly", "number"],
         "compared": ["one", "other"], "poly_of": ["number"], "as_fraction": ["number"], "real_roots": ["poly"],
     },
+    "boxedroots.roots": {
+        "roots": ["system"], "kept": ["system", "wishes"], "least_at": ["system", "poly"], "many_real": ["system"],
+        "greatest_at": ["system", "poly"], "nearest": ["system", "point"],
+    },
+    "boxedroots.texts": {"poly_text": ["poly"], "system_text": ["system"]},
+    "boxedroots.reading": {"read_poly": ["text"], "read_system": ["text"]},
 }
 CLASSES = {
     ("boxedroots.polys", "Poly"): (["terms"], ["__init__", "__eq__"]),
     ("boxedroots.systems", "System"): (["many", "equations", "barred"], ["__init__", "__eq__"]),
     ("boxedroots.numbers", "Number"): (["poly", "low", "high"], ["__init__", "__eq__"]),
+    ("boxedroots.roots", "Root"): (None, ["box", "value", "sign_at", "value_of", "__eq__"]),
+    ("boxedroots.desk", "Desk"): ([], ["tell"]),
 }
 
 
@@ -60,9 +68,19 @@ class InterfaceTest(unittest.TestCase):
         for (module, name), (arguments, methods) in CLASSES.items():
             found = getattr(importlib.import_module(module), name)
             self.assertEqual(found.__module__, module)
-            self.assertEqual(list(inspect.signature(found).parameters), arguments)
+            if arguments is not None:
+                self.assertEqual(list(inspect.signature(found).parameters), arguments)
             for method in methods:
                 self.assertIn(method, vars(found))
+
+    def test_methods(self):
+        for method, arguments in (
+            ("box", ["width"]), ("value", ["k"]), ("sign_at", ["poly"]), ("value_of", ["poly"]),
+        ):
+            function = vars(importlib.import_module("boxedroots.roots").Root)[method]
+            self.assertEqual(list(inspect.signature(function).parameters), ["self"] + arguments)
+        function = vars(importlib.import_module("boxedroots.desk").Desk)["tell"]
+        self.assertEqual(list(inspect.signature(function).parameters), ["self", "line"])
 
     def test_the_package_is_one(self):
         self.assertTrue(importlib.import_module("boxedroots").__file__.endswith("__init__.py"))
