@@ -49,9 +49,11 @@ def single_root(line, low, high):
 
     None if there is none, or more than one.
     """
-    ends = [place for place in ((low,) if low == high else (low, high)) if sign_at(line, place) == 0]
-    if len(ends) > 1 or low == high:
-        return (low, high) if len(ends) == 1 else None
+    if low == high:
+        return (low, high) if sign_at(line, low) == 0 else None
+    ends = [place for place in (low, high) if sign_at(line, place) == 0]
+    if len(ends) > 1:
+        return None
     inner = roots_over(line, (low, high), 1 - len(ends))
     if len(inner) + len(ends) != 1:
         return None

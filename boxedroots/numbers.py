@@ -1,7 +1,8 @@
 """Live real numbers: each the one root that a polynomial has between two fractions."""
 
-from boxedroots.common import common
+from boxedroots.common import common, primitive
 from boxedroots.errors import BadNumber, Below, ByNought, NoFraction, NoNumber, NoPolynomial, NoWidth
+from boxedroots.factoring import least_line
 from boxedroots.isolating import changes_sign, isolated, single_root, without_doubles
 from boxedroots.judging import is_fraction, is_number_to
 from boxedroots.lines import line_of, poly_of_line, power_of_two, row_over, row_sign, sign_at
@@ -59,11 +60,14 @@ def number_with(told):
 def number_within(line, low, high):
     """The Number that is the one root of a line from one fraction to another, None if there is not just one."""
     told = told_of(line, low, high)
-    if told is None:
-        return None
-    number = number_with(told)
-    fraction = as_fraction(number)
-    return number if fraction is None else number_of(fraction)
+    return None if told is None else settled(number_with(told))
+
+
+def settled(number):
+    """The same Number, its line being one that cannot be parted further."""
+    if number.low == number.high:
+        return number
+    return number_with(told_of(least_line(list(number.line), number.low, number.high), number.low, number.high))
 
 
 def number_of(fraction):
@@ -128,7 +132,7 @@ def sign_of(poly, number):
         raise NoPolynomial()
     if number.low == number.high:
         return sign_at(line_of(poly), number.low)
-    if changes_sign(common(poly, poly_of(number)), number.low, number.high):
+    if changes_sign(common(poly, poly_of_line(number.line)), number.low, number.high):
         return 0
     bits = FIRST_BITS
     while True:
@@ -162,12 +166,13 @@ def are_same(one, other):
     low, high = greatest_of(one.low, other.low), least_of(one.high, other.high)
     if not is_less(low, high):
         return False
-    return changes_sign(common(poly_of(one), poly_of(other)), low, high)
+    return changes_sign(common(poly_of_line(one.line), poly_of_line(other.line)), low, high)
 
 
 def poly_of(number):
-    """A Poly of x without double roots that is 0 at a number."""
-    return poly_of_line(number.line)
+    """The Poly of x that is 0 at a number and cannot be parted further, so without double roots."""
+    # By the number alone, whatever it was made of.
+    return primitive(poly_of_line(settled(number).line))
 
 
 def as_fraction(number):
@@ -182,7 +187,7 @@ def as_fraction(number):
 
 def sum_of(one, other):
     """The sum of two numbers."""
-    return together(one, other, line_of_sums(one.line, other.line), sum_of_ends)
+    return together(one, other, line_of_sums, sum_of_ends)
 
 
 def difference_of(one, other):
@@ -192,7 +197,7 @@ def difference_of(one, other):
 
 def product_of(one, other):
     """The product of two numbers."""
-    return together(one, other, line_of_products(one.line, other.line), product_of_ends)
+    return together(one, other, line_of_products, product_of_ends)
 
 
 def quotient_of(one, other):
@@ -202,9 +207,10 @@ def quotient_of(one, other):
     return product_of(one, upside_down(other))
 
 
-def together(one, other, line, spread_of):
-    """The Number that comes of two, by a line that is 0 there, and by what comes of pairs of fractions about them."""
-    whole = line_of(without_doubles(poly_of_line(line)))
+def together(one, other, line_by, spread_of):
+    """The Number that comes of two, by what comes of lines that are 0 there, and of pairs of fractions about them."""
+    one, other = settled(one), settled(other)
+    whole = line_of(without_doubles(poly_of_line(line_by(one.line, other.line))))
     bits = FIRST_BITS
     while True:
         low, high = spread_of(near(one, bits), near(other, bits))
@@ -253,6 +259,7 @@ def root_of(number, many):
         raise NoNumber()
     if many & 1 == 0 and sign_beside(number, (0, 1)) < 0:
         raise Below()
+    number = settled(number)
     line = [0] * (many * (len(number.line) - 1) + 1)
     for at, count in enumerate(number.line):
         line[many * at] = count

@@ -41,10 +41,13 @@ def line_by_sums(sums):
     return found
 
 
-def weighted(line, number):
-    """The line of the roots divided by an integer."""
+def weighted(counts, number):
+    """The counts, each times an integer, as often as there are counts ahead.
+
+    Sums of powers become those of the roots times the integer, a line that of the roots divided by it.
+    """
     found, weight = [], 1
-    for count in line:
+    for count in counts:
         found.append(count * weight)
         weight = weight * number
     return found
@@ -54,20 +57,11 @@ def line_of_sums(one, other):
     """A line whose roots are the sums of a root of one line and one of another."""
     many = (len(one) - 1) * (len(other) - 1)
     first, second = sums_of_powers(monic(one), many), sums_of_powers(monic(other), many)
-    first, second = scaled_sums(first, other[-1]), scaled_sums(second, one[-1])
+    first, second = weighted(first, other[-1]), weighted(second, one[-1])
     sums = []
     for high in range(many + 1):
         sums.append(sum([comb(high, at) * first[at] * second[high - at] for at in range(high + 1)]))
     return weighted(line_by_sums(sums), one[-1] * other[-1])
-
-
-def scaled_sums(sums, number):
-    """The sums of powers of the roots times an integer."""
-    found, weight = [], 1
-    for count in sums:
-        found.append(count * weight)
-        weight = weight * number
-    return found
 
 
 def line_of_products(one, other):

@@ -25,8 +25,8 @@ def has_root(system):
 
 
 def is_endless(system):
-    """Whether there is no end of the roots of a system."""
-    return any([len(chain) < system.many for chain, _ in leaves_of(system)])
+    """Whether a thing is a system of whose roots there is no end."""
+    return isinstance(system, System) and any([len(chain) < system.many for chain, _ in leaves_of(system)])
 
 
 def vanishing(system, poly):

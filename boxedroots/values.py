@@ -42,7 +42,7 @@ def values_line(chain, poly):
         unders.append(under)
         if counts is not None:
             return without_content([counts.get(at, 0) * weight for at, weight in enumerate(unders)])
-        here, under = product_by(here, front, under * bottom, reducers)
+        here, under = product_rest(here, front, under * bottom, reducers)
 
 
 def without_content(line):
@@ -53,7 +53,7 @@ def without_content(line):
     return [count // shared for count in line]
 
 
-def product_by(one, other, under, reducers):
+def product_rest(one, other, under, reducers):
     """As rest_by, of the product of two dicts over an integer."""
     counts = {}
     for key, count in one.items():

@@ -4,7 +4,7 @@ from fractions import Fraction
 from itertools import product
 from math import comb
 
-from judge import degree_of, slope_counts, top_of
+from judge import slope_counts
 
 
 def own_degrees(counts, many):
@@ -122,7 +122,3 @@ def own_boxes(thing, box=()):
         if below is not None:
             found += own_boxes(below, box + ((low, high),))
     return found
-
-
-def is_finite(chain):
-    return [top_of(poly) for poly in chain] == list(range(len(chain))) and degree_of(chain[0], 0) > 0

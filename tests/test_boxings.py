@@ -9,7 +9,7 @@ from boxedroots.errors import NoBoxing, NoChain, RootError
 from boxedroots.making import cover_of
 from boxedroots.covers import leaves
 from boxedroots.numbers import number_of
-from boxedroots.polys import Poly, minus, number_poly, plus, power, times
+from boxedroots.polys import Poly, minus, plus, power, times
 from boxedroots.systems import System
 from boxjudge import own_boxes, own_fault
 from helping import NOUGHT, ONE, W, X, Y, Z, Dice, linear, nested, odd_things, pair, total
@@ -29,16 +29,6 @@ def refused(test, error, function, *arguments):
         function(*arguments)
     test.assertIs(type(caught.exception), error)
     test.assertEqual(vars(caught.exception), {})
-
-
-def value(poly, values):
-    found = Fraction(0)
-    for powers, count in poly.terms:
-        part = Fraction(count)
-        for place, high in zip(values, powers):
-            part *= place ** high
-        found += part
-    return found
 
 
 class BoxingTest(unittest.TestCase):

@@ -8,7 +8,7 @@ from boxedroots.errors import Endless, NoPoint, NoPolynomial, NoUnknown, NoWidth
 from boxedroots.numbers import (
     Number, as_fraction, compared, difference_of, floor_of, number_of, product_of, root_of, sum_of,
 )
-from boxedroots.polys import Poly, degree, minus, number_poly, plus, power, times
+from boxedroots.polys import Poly, minus, plus, power, times
 from boxedroots.roots import Root, greatest_at, kept, least_at, many_real, nearest, roots
 from boxedroots.systems import System
 from boxedroots.telling import many_roots
@@ -36,10 +36,6 @@ def in_z(poly):
 
 def frac(over, under=1):
     return number_of(pair(Fraction(over, under)))
-
-
-def fractions_of(found):
-    return [tuple([as_fraction(root.value(k)) for k in range(2)]) for root in found]
 
 
 def points_of(found, many):

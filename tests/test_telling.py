@@ -6,10 +6,10 @@ from boxedroots.covers import cover_fault, leaves
 from boxedroots.errors import NoPolynomial, RootError, TooMany, Unlike
 from boxedroots.making import cover_of
 from boxedroots.numbers import number_of
-from boxedroots.polys import Poly, minus, number_poly, plus, power, times
+from boxedroots.polys import Poly, minus, plus, power, times
 from boxedroots.systems import System
 from boxedroots.telling import has_root, is_endless, many_roots, met, same_roots, vanishes, vanishing
-from helping import NOUGHT, ONE, W, X, Y, Z, Dice, linear, nested, odd_things, total
+from helping import NOUGHT, ONE, W, X, Y, Z, Dice, linear, nested, odd_things
 from judge import judged
 from test_making import KNOWN, OVER, XX, XY, YY, ZZ, dense, from_roots, in_y, number
 
@@ -33,6 +33,10 @@ class ManyTest(unittest.TestCase):
             self.assertIs(type(found), type(many))
             self.assertIs(has_root(system), many != 0)
             self.assertIs(is_endless(system), many is None)
+
+    def test_is_endless_judges_whatever_is_passed(self):
+        for thing in odd_things() + [number_of((1, 2)), (S,), [System(1, (), ())], nested(S, 40, lambda part: (part,))]:
+            self.assertIs(is_endless(thing), False)
 
     def test_e02(self):
         self.assertEqual(many_roots(S), 2)
