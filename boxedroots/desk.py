@@ -1,6 +1,6 @@
 """A desk: systems under names, and what is told of them, line by line."""
 
-from boxedroots.errors import Endless, NoLine, NoName, NoNumber, NoPolynomial, NoPower, Unlike
+from boxedroots.errors import Endless, NoLine, NoName, NoNumber, NoPolynomial, NoPower
 from boxedroots.figures import figures, written_out
 from boxedroots.forms import PUT, parts_of
 from boxedroots.numbers import floor_of
@@ -43,7 +43,7 @@ class Desk:
         if word in ("root", "sign"):
             return self.told_of_root(parts)
         if word == "same":
-            return told_of_both(self.systems[parts[0]], self.systems[parts[1]])
+            return yes_or_no(same_roots(self.systems[parts[0]], self.systems[parts[1]]))
         return told_of_one(word, self.systems[parts[0]], parts[1:])
 
     def begin(self, name, many):
@@ -76,11 +76,9 @@ class Desk:
         if self.found[name] is None or number >= len(self.found[name]):
             raise NoNumber()
         root, many = self.found[name][number], self.systems[name].many
-        if len(parts) == 2:
-            return " ".join([written_out(floor_of(root.value(k), PLACES), PLACES) for k in range(many)])
-        if not stands_in(many, parts[2]):
-            raise NoPolynomial()
-        return figures(root.sign_at(parts[2]))
+        if len(parts) > 2:
+            return figures(root.sign_at(parts[2]))
+        return " ".join([written_out(floor_of(root.value(k), PLACES), PLACES) for k in range(many)])
 
 
 def roots_or_none(system):
@@ -104,16 +102,7 @@ def told_of_one(word, system, parts):
             return figures(many_real(system))
         except Endless:
             return ENDLESS
-    if not stands_in(system.many, parts[0]):
-        raise NoPolynomial()
     return yes_or_no(vanishes(system, parts[0]))
-
-
-def told_of_both(one, other):
-    """Whether two systems have the same roots."""
-    if one.many != other.many:
-        raise Unlike()
-    return yes_or_no(same_roots(one, other))
 
 
 def yes_or_no(flag):

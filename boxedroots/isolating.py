@@ -16,8 +16,6 @@ def isolated(line):
 
     It is strictly between them, and none is at one of them; or they are the same, and it is there.
     """
-    if len(line) == 1:
-        return []
     far = power_of_two(max(0, most_bits(line)))
     return roots_over(line, ((-far, 1), (far, 1)), None)
 
@@ -52,8 +50,6 @@ def single_root(line, low, high):
     if low == high:
         return (low, high) if sign_at(line, low) == 0 else None
     ends = [place for place in (low, high) if sign_at(line, place) == 0]
-    if len(ends) > 1:
-        return None
     inner = roots_over(line, (low, high), 1 - len(ends))
     if len(inner) + len(ends) != 1:
         return None

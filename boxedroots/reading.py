@@ -90,8 +90,6 @@ def factor_of(word):
 
 def powered(poly, many):
     """The Poly so many times as a factor, which is not too great on the way either."""
-    if many * max([degree(poly, k) for k in range(UNKNOWNS)]) > MOST_POWER:
-        raise BadText(GREAT)
     found = number_poly(1)
     for _ in range(many):
         found = fitting(times(found, poly))

@@ -17,8 +17,6 @@ def sign_at_root(chain, box, poly):
     highest = top(poly)
     many = 0 if highest is None else highest + 1
     chain, box = chain[:many], box[:many]
-    if many == 0:
-        return sign_in(poly, ())
     for _ in range(PATIENCE):
         sign = sign_in(poly, box)
         if sign != 0:

@@ -100,7 +100,7 @@ class DeskTest(unittest.TestCase):
             "sign s 0 x y", "sign s 0 x^61", "sign s 1000 x", "sign s 0 x = 0", "zero s", "zero s ", "zero s x +", "zero s a", "zero s x = 0", "same s", "same s ", "same s s s",
             "same s  s", "same s 1", "drop", "drop s ", "drop s s", "s", "s :", "s : ", "s : x", "s : x =", "s : = 0", "s : x = 0 = 0", "s : x == 0", "s : x ! = 0", "s: x = 0",
             "s :x = 0", "s  : x = 0", " s : x = 0", "S : x = 0", "abcdefghi : x = 0", "s : x^61 = 0", "s : x = " + "1" * 31, "s : y z = 0", "s : x = 0\n", "let s 2\n", "show s\n",
-            "s : x < 0", ": x = 0", "list", "help s", "x = 0", "sign s 0\nx", "s2 : x = 0", "zero s " + "(" * 21 + "x" + ")" * 21, "\n", "show\ns", "let s 2\nshow s", "same s s ",
+            "s : x < 0", "s : 12", "s : 00", "s : 1 2", ": x = 0", "list", "help s", "x = 0", "sign s 0\nx", "s2 : x = 0", "zero s " + "(" * 21 + "x" + ")" * 21, "\n", "show\ns", "let s 2\nshow s", "same s s ",
         ):
             self.refused(desk, line, NoLine)
         for thing in odd_things() + [X, number_of((1, 2)), System(1, (), ()), Desk(), b"show s", ["show s"], ("show s",), nested("show s", 40, lambda part: (part,))]:

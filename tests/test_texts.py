@@ -121,6 +121,7 @@ class ReadTest(unittest.TestCase):
         rows = [f"x^{a}*y^{b}" for a, b in product(range(20), range(15))]
         self.assertEqual(len(read_poly(" + ".join(rows)).terms), 300)
         self.assertEqual(len(read_poly(" - ".join(rows + rows)).terms), 299)
+        self.assertEqual(len(read_poly(" + ".join(rows) + f" - {rows[0]} + z").terms), 300)
         self.bad("great", " + ".join(rows + ["z"]))
         self.bad("great", "(" + " + ".join(rows + ["z"]) + ")*0")
         self.assertEqual(len(read_poly(" + ".join(rows + ["y"])).terms), 300)
@@ -187,7 +188,7 @@ class SystemTest(unittest.TestCase):
             (2, "unknowns 2\nx = 0 = 0\n"), (2, "unknowns 2\n= 0\n"), (2, "unknowns 2\nx =\n"), (2, "unknowns 2\nx ! = 0\n"), (2, "unknowns 2\nx !== 0\n"), (2, "unknowns 2\nx == 0\n"),
             (3, "unknowns 2\nx = 0\nx y = 0\n"), (3, "unknowns 2\nx = 0\nx^61 = 0\ny\n"), (3, "unknowns 2\nx = 0\ny = 0"), (4, "unknowns 2\nx = 0\ny = 0\nz"),
             (3, "unknowns 2\nx = 0\ny =\nz = 0"), (2, "unknowns 2\nunknowns 2\n"), (3, "unknowns 2\nx = 0\n\ny = 0\n"), (2, "unknowns 2\nx != !0\n"), (1, "2\n"),
-            (2, "unknowns 2\nx < 0\n"), (2, "unknowns 7\n!= 0\n"), (2, "unknowns 2\nx = " + "1" * 31 + "\n"), (4, "unknowns 1\nx = 0\nx = 0\n0\n"), (2, "unknowns 1\nX = 0\n"),
+            (2, "unknowns 2\nx < 0\n"), (2, "unknowns 7\n!= 0\n"), (2, "unknowns 2\nx = " + "1" * 31 + "\n"), (4, "unknowns 1\nx = 0\nx = 0\n0\n"), (2, "unknowns 1\nX = 0\n"), (2, "unknowns 1\n12\n"), (3, "unknowns 1\nx=x\n00\n"),
             (3, "unknowns 1\nx = 0\n \n"), (1, "unknowns 1 2\n"), (1, "unknowns2\n"), (1, "x"), (1, " "),
         ):
             self.bad(number, text)
