@@ -5,8 +5,8 @@ tuples of powers are, if each power has as many bits of its own as the greatest 
 """
 
 from collections import defaultdict
-from heapq import heapify, heappop, heappush
 
+from boxedroots.ascending import put_in
 from boxedroots.judging import UNKNOWNS
 
 
@@ -107,16 +107,15 @@ def divided_terms(terms, powers, count):
 def taken_out(one, other, bound, guard):
     """The packed terms of the quotient, the greatest place first, None if there is a remainder.
 
-    A quotient has powers up to the bound; guard has the spare bit of each power.
+    Both ascend. A quotient has powers up to the bound; guard has the spare bit of each power.
     """
     last, least = other[-1]
     lower = other[:-1]
     counts = {place: count for place, count in one}
-    queue = [-place for place, _ in one]
-    heapify(queue)
+    places = [place for place, _ in one]
     found = []
-    while queue:
-        place = -heappop(queue)
+    while places:
+        place = places.pop()
         # No later step reaches this place again, as all that they take away stands below their own.
         count = counts.pop(place)
         if count == 0:
@@ -129,7 +128,7 @@ def taken_out(one, other, bound, guard):
         for there, by in lower:
             at = there + step
             if at not in counts:
-                heappush(queue, -at)
+                put_in(places, at)
                 counts[at] = 0
             counts[at] -= by * many
     return found

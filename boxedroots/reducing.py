@@ -1,8 +1,8 @@
 """Reducing a sum of terms by others, each term being a KEY (boxedroots.orders) with its count."""
 
-from heapq import heapify, heappop, heappush
 from math import gcd, lcm
 
+from boxedroots.ascending import put_in
 from boxedroots.orders import divides, key_of, powers_of
 from boxedroots.polys import gathered
 
@@ -26,7 +26,7 @@ class Remainder:
 
     def __init__(self, counts):
         self.counts = dict(counts)
-        self.queue = [-key for key in counts]
+        self.places = sorted(counts)
         self.over = 1
         self.under = 1
         self.grown = 0
@@ -46,14 +46,14 @@ class Remainder:
             self.scale(many)
         shift = key - reducer.lead
         self.used.append((reducer.at, shift, step * self.over, self.under))
-        counts, queue = self.counts, self.queue
+        counts, places = self.counts, self.places
         for there, by in reducer.tail:
             place = there + shift
             if place in counts:
                 counts[place] -= by * step
             else:
                 counts[place] = -by * step
-                heappush(queue, -place)
+                put_in(places, place)
 
     def scale(self, many):
         """Have many times the counts, and so many times less of them."""
@@ -98,9 +98,8 @@ def reducer_for(key, reducers):
 def remainder_of(counts, reducers, limit=None):
     """The Remainder of a dict from keys to counts, wholly reduced; None if that takes integers of more bits."""
     here = Remainder(counts)
-    heapify(here.queue)
-    while here.queue:
-        key = -heappop(here.queue)
+    while here.places:
+        key = here.places.pop()
         count = here.counts.pop(key)
         if count == 0:
             continue

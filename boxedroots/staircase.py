@@ -1,8 +1,8 @@
 """From a base by degree to one by tops, where there are only so many products that no base reduces."""
 
-from heapq import heappop, heappush
 from math import gcd, lcm
 
+from boxedroots.ascending import put_in
 from boxedroots.judging import UNKNOWNS
 from boxedroots.orders import BY_DEGREE, BY_TOPS, divides, key_of, powers_of
 from boxedroots.polys import gathered
@@ -121,7 +121,7 @@ def base_by_tops(many, reducers):
     queue = [(0, -1, 0)]
     done = {}
     while queue:
-        key, k, below = heappop(queue)
+        key, k, below = queue.pop(0)
         if key in done or any([divides(lead, key) for lead in leads]):
             continue
         done[key] = True
@@ -130,7 +130,7 @@ def base_by_tops(many, reducers):
         counts = echelon.sum_to_nought(key, row)
         if counts is None:
             for place, step in enumerate(steps):
-                heappush(queue, (key + step, place, key))
+                put_in(queue, (key + step, place, key))
         else:
             leads.append(key)
             found.append(sum_of_keys(BY_TOPS, counts, rows))

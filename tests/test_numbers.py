@@ -140,6 +140,27 @@ class NumberTest(unittest.TestCase):
             self.assertIs(one != other, name != others)
             self.assertEqual(compared(one, other) == 0, name == others)
 
+    def test_equal_not_to_one_that_lies_near(self):
+        near = 10 ** 25
+        shifted = linear(1 - 2 * near ** 2, -2 * near, near ** 2)
+        for poly, low, high in (
+            (linear(-2 * near ** 2 - 1, 0, near ** 2), (1, 1), (2, 1)), (shifted, (1, 1), (2, 1)),
+            (linear(-2 * near - 1, 0, near), (7, 5), (3, 2)), (times(linear(-2 * near - 1, 0, near), linear(-3, 1)), (0, 1), (2, 1)),
+            (linear(-isqrt(2 * near ** 2), near), (1, 1), (2, 1)), (linear(-isqrt(2 * near ** 2) - 1, near), (1, 1), (2, 1)),
+        ):
+            number = Number(poly, low, high)
+            self.assertIs(number == square(2), False)
+            self.assertIs(square(2) == number, False)
+            self.assertIs(number == Number(times(poly, poly), low, high), True)
+            self.assertIs(number == Number(times(poly, linear(-5, 1)), low, high), True)
+            self.assertEqual(abs(compared(number, square(2))), 1)
+        # Both at once, on the same polynomial.
+        both = times(linear(-2, 0, 1), linear(-2 * near - 1, 0, near))
+        one, other = real_roots(both)[2:]
+        self.assertIs(one == other, False)
+        self.assertIs(one == square(2), True)
+        self.assertIs(other == Number(linear(-2 * near - 1, 0, near), (1, 1), (2, 1)), True)
+
     def test_equal_to_nothing_else(self):
         for number, thing in product((frac(0), frac(1), square(2)), odd_things() + [0, 1, (0, 1), (1, 1), 1.0, linear(-2, 0, 1)]):
             self.assertIs(number == thing, False)

@@ -315,6 +315,20 @@ class RootTest(unittest.TestCase):
         x_square = roots(System(2, (times(minus(XX, number(2)), linear(-5, 1)), minus(Y, X)), ()))
         self.assertTrue(x_square[0] == roots(System(2, (minus(YY, number(2)), minus(X, Y)), ()))[0])
 
+    def test_equal_beside_near_ones(self):
+        near = 10 ** 20
+        two = minus(times(number(near), XX), number(2 * near))
+        beside = minus(two, ONE)
+        pairs = roots(System(2, (times(two, beside), minus(YY, X)), ()))
+        self.assertEqual(len(pairs), 4)
+        for at, one in enumerate(pairs):
+            self.assertEqual([one == other for other in pairs], [at == place for place in range(4)])
+        for poly, places in ((two, (0, 1)), (beside, (2, 3))):
+            alone = roots(System(2, (poly, minus(power(Y, 4), XX)), (plus(YY, X),)))
+            self.assertEqual(len(alone), 2)
+            found = [[one == other for other in pairs] for one in alone]
+            self.assertEqual(found, [[at == place for at in range(4)] for place in places])
+
     def test_nothing_changes(self):
         root = roots(S)[0]
         before = dict(vars(root))
