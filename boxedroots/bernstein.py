@@ -5,7 +5,7 @@ from math import comb
 
 from boxedroots.divide import eliminated, rows_of
 from boxedroots.errors import Double, NoBox, NoInteger, NoUnknown
-from boxedroots.judging import is_integer, is_unknown
+from boxedroots.judging import is_bound, is_unknown
 from boxedroots.polys import (
     Poly, degree, gathered, number_poly, number_raised, slope, stands_in, top, with_power,
 )
@@ -56,7 +56,7 @@ def holds_in(poly, k, box, bound):
         raise NoUnknown()
     if not is_box(box) or len(box) != k:
         raise NoBox()
-    if not is_integer(bound) or bound < 1:
+    if not is_bound(bound):
         raise NoInteger()
     return bounds(poly, k, box, bound)
 
@@ -100,12 +100,11 @@ def width_told(poly, bound):
     a, b, r = eliminated(poly, below, 0) if high > 1 else (Poly(()), number_poly(1), below)
     if not r.terms:
         raise Double()
-    if not is_integer(bound):
+    if not is_bound(bound):
         raise NoInteger()
     # At each place the Poly or its slope is at least e, and the slope changes by less than e on so short a way.
-    far = max(bound, 1)
-    bend = size_within(slope(below, 0), far)
-    return ratio(abs(r.terms[0][1]), (size_within(a, far) + size_within(b, far)) * (bend + 1))
+    bend = size_within(slope(below, 0), bound)
+    return ratio(abs(r.terms[0][1]), (size_within(a, bound) + size_within(b, bound)) * (bend + 1))
 
 
 def size_within(poly, far):

@@ -3,7 +3,7 @@
 from boxedroots.bernstein import bounds
 from boxedroots.chains import is_chain, is_regular
 from boxedroots.errors import NoBoxing, NoChain
-from boxedroots.judging import is_integer
+from boxedroots.judging import is_bound
 from boxedroots.narrowing import sign_placed
 from boxedroots.piecing import boxing_over
 from boxedroots.polys import slope
@@ -63,7 +63,7 @@ def fault_over(chain, box, thing):
     if not isinstance(thing, tuple) or len(thing) != 2:
         return ("pieces",)
     bound, pieces = thing
-    if not is_integer(bound) or bound < 1 or not bounds(chain[k], k, box, bound):
+    if not is_bound(bound) or not bounds(chain[k], k, box, bound):
         return ("bound",)
     if not are_pieces(bound, pieces):
         return ("pieces",)

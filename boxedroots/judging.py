@@ -1,4 +1,4 @@
-"""What an integer, a number, an unknown, a fraction and a point are."""
+"""What an integer, a number, a bound, an unknown, a fraction and a point are."""
 
 from math import gcd
 
@@ -13,6 +13,11 @@ def is_integer(thing):
 def is_number_to(most, thing):
     """Whether a thing is an integer from 0 to the most."""
     return is_integer(thing) and 0 <= thing <= most
+
+
+def is_bound(thing):
+    """Whether a thing is an integer from 1 on."""
+    return is_integer(thing) and thing >= 1
 
 
 def is_unknown(thing):

@@ -301,7 +301,7 @@ class WidthTest(unittest.TestCase):
                 self.assertNotEqual(changes, [True, True])
 
     def test_edges(self):
-        for bound in (0, 1, -1, -10 ** 29, 10 ** 29):
+        for bound in (1, 2, 10 ** 29, 10 ** 30 - 1):
             self.held(linear(-2, 0, 1), bound)
             self.held(linear(3, -7), bound)
             self.held(X, bound)
@@ -316,14 +316,25 @@ class WidthTest(unittest.TestCase):
         ):
             refused(self, Double, width_told, poly, 1)
         for thing in odd_things():
-            if type(thing) is not int:
+            if type(thing) is not int or thing < 1:
                 refused(self, NoInteger, width_told, X, thing)
         for thing in (True, False, None, "1", (1, 1)):
             refused(self, NoInteger, width_told, linear(-2, 0, 1), thing)
 
+    def test_bounds_below_one(self):
+        for bound in (0, -1, -2, -10 ** 29, 1 - 10 ** 30):
+            for poly in (X, linear(0, -2), linear(-2, 0, 1), linear(0, -1, 0, 1), minus(power(X, 12), number_poly(10 ** 29))):
+                refused(self, NoInteger, width_told, poly, bound)
+                refused(self, NoInteger, holds_in, poly, 0, (), bound)
+                self.held(poly, 1)
+
     def test_order_of_errors(self):
-        refused(self, NoUnknown, width_told, Y, None)
-        refused(self, Double, width_told, ONE, None)
+        for bound in (None, 0, -1, -10 ** 29, True, "1"):
+            refused(self, NoUnknown, width_told, Y, bound)
+            refused(self, NoUnknown, width_told, times(X, Y), bound)
+            refused(self, Double, width_told, ONE, bound)
+            refused(self, Double, width_told, NOUGHT, bound)
+            refused(self, Double, width_told, power(linear(1, 2), 2), bound)
 
 
 if __name__ == "__main__":

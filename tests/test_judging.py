@@ -1,8 +1,8 @@
-"""0.2: what an integer, a number, an unknown, a fraction and a point are."""
+"""0.2 and 6.2: what an integer, a number, a bound, an unknown, a fraction and a point are."""
 
 import unittest
 
-from boxedroots.judging import is_fraction, is_integer, is_number_to, is_point, is_unknown
+from boxedroots.judging import is_bound, is_fraction, is_integer, is_number_to, is_point, is_unknown
 from helping import X, odd_things
 
 
@@ -18,6 +18,12 @@ class JudgingTest(unittest.TestCase):
             self.assertIs(is_number_to(60, thing), True)
         for thing in (61, -1, True, False, None, "1", (1,), X):
             self.assertIs(is_number_to(60, thing), False)
+
+    def test_bounds(self):
+        for thing in (1, 2, 10 ** 30):
+            self.assertIs(is_bound(thing), True)
+        for thing in (0, -1, -10 ** 30, True, False, None, "1", (1,), [1], X):
+            self.assertIs(is_bound(thing), False)
 
     def test_unknowns(self):
         for thing in (0, 1, 2, 3):
@@ -45,6 +51,7 @@ class JudgingTest(unittest.TestCase):
         for thing in odd_things():
             self.assertIs(is_integer(thing), type(thing) is int)
             self.assertIs(is_number_to(60, thing), False)
+            self.assertIs(is_bound(thing), type(thing) is int and thing > 0)
             self.assertIs(is_unknown(thing), False)
             self.assertIs(is_fraction(thing), thing == (0, 1))
             self.assertIs(is_point(4, thing), False)
